@@ -1,0 +1,97 @@
+// Package shape: what kind of thing an expression is, found out, and shown: see DOC.md.
+package shape
+
+import (
+	"errors"
+
+	"shape/expr"
+	"shape/fault"
+	"shape/kind"
+)
+
+// Errno is what a call answers: OK or the reason for a refusal.
+type Errno int
+
+const (
+	OK       Errno = 0
+	ErrLong  Errno = 1 // a text above its bound
+	ErrText  Errno = 2 // no such text
+	ErrFree  Errno = 3 // a name that nothing says
+	ErrCount Errno = 4 // too many types behind a name, or too few
+	ErrMixed Errno = 5 // a call that may not be
+	ErrFixed Errno = 6 // a variable that may not be taken for anything
+	ErrType  Errno = 7 // there is no type
+	ErrBig   Errno = 8 // a type that is too big
+)
+
+// The most bytes of an expression, and of a type.
+const (
+	maxText = 24
+	maxType = 4000
+)
+
+// Print writes an expression in its one form (P3).
+func Print(text string) (string, Errno, int) {
+	form, err := printed(text)
+	return form, number(err), place(err)
+}
+
+// Infer finds the most general type (P5).
+func Infer(text string) (string, Errno, int) { return "", 0, 0 }
+
+// Show writes an expression with its types (P6).
+func Show(text string) (string, Errno, int) { return "", 0, 0 }
+
+// Check checks a typed expression (P4).
+func Check(typed string) (string, Errno, int) { return "", 0, 0 }
+
+// Instance tells whether a type is an instance of another one (P7).
+func Instance(general string, special string) (bool, Errno, int) {
+	is, err := isInstance(general, special)
+	return is, number(err), place(err)
+}
+
+func printed(text string) (string, error) {
+	if len(text) > maxText {
+		return "", fault.Long
+	}
+	e, err := expr.Read(text)
+	if err != nil {
+		return "", err
+	}
+	return expr.Write(e), nil
+}
+
+func isInstance(general, special string) (bool, error) {
+	if len(general) > maxType || len(special) > maxType {
+		return false, fault.Long
+	}
+	g, err := kind.Read(general)
+	if err != nil {
+		return false, err
+	}
+	s, err := kind.Read(special)
+	if err != nil {
+		return false, err
+	}
+	return kind.Instance(g, s), nil
+}
+
+func number(err error) Errno {
+	switch {
+	case errors.Is(err, fault.Long):
+		return ErrLong
+	case errors.Is(err, fault.Text):
+		return ErrText
+	}
+	return OK
+}
+
+// place is 0 where what is wrong has no place, and where nothing is wrong.
+func place(err error) int {
+	var at *fault.At
+	if errors.As(err, &at) {
+		return at.Place
+	}
+	return 0
+}
