@@ -3,6 +3,7 @@ package expr
 import (
 	"strings"
 
+	"shape/kind"
 	"shape/scan"
 )
 
@@ -13,8 +14,22 @@ const (
 
 // Read refuses a text that is no expression with a fault.Text at its place.
 func Read(text string) (Expr, error) {
-	r := scan.New(text)
-	e, err := readExpr(r)
+	return readWhole(reader{Reader: scan.New(text)})
+}
+
+// ReadTyped refuses a text that is no typed expression with a fault.Text at its place.
+func ReadTyped(text string) (Expr, error) {
+	return readWhole(reader{Reader: scan.New(text), typed: true})
+}
+
+// A reader reads expressions, or typed ones: these have some more bytes between the same parts.
+type reader struct {
+	*scan.Reader
+	typed bool
+}
+
+func readWhole(r reader) (Expr, error) {
+	e, err := r.expr()
 	if err != nil {
 		return nil, err
 	}
@@ -24,89 +39,131 @@ func Read(text string) (Expr, error) {
 	return e, nil
 }
 
-func readExpr(r *scan.Reader) (Expr, error) {
+func (r reader) expr() (Expr, error) {
+	place := r.Place()
 	switch {
 	case r.Take('\\'):
-		return readFunction(r)
+		return r.function(place)
 	case r.Take('@'):
-		return readLet(r)
+		return r.let()
 	}
-	return readCalls(r)
+	return r.calls()
 }
 
-func readFunction(r *scan.Reader) (Expr, error) {
-	name, err := readNameAnd(r, '.')
+func (r reader) function(place int) (Expr, error) {
+	name, err := r.Letter()
 	if err != nil {
 		return nil, err
 	}
-	body, err := readExpr(r)
+	from, err := r.from()
 	if err != nil {
 		return nil, err
 	}
-	return Function{Name: name, Body: body}, nil
+	if err := r.Want('.'); err != nil {
+		return nil, err
+	}
+	body, err := r.expr()
+	if err != nil {
+		return nil, err
+	}
+	return Function{Name: name, From: from, Body: body, Place: place}, nil
 }
 
-func readLet(r *scan.Reader) (Expr, error) {
-	name, err := readNameAnd(r, '=')
+func (r reader) from() (kind.Type, error) {
+	if !r.typed {
+		return nil, nil
+	}
+	if err := r.Want(':'); err != nil {
+		return nil, err
+	}
+	return kind.ReadFrom(r.Reader)
+}
+
+func (r reader) let() (Expr, error) {
+	name, err := r.Letter()
 	if err != nil {
 		return nil, err
 	}
-	value, err := readExpr(r)
+	own, err := r.own()
+	if err != nil {
+		return nil, err
+	}
+	if err := r.Want('='); err != nil {
+		return nil, err
+	}
+	value, err := r.expr()
 	if err != nil {
 		return nil, err
 	}
 	if err := r.Want(';'); err != nil {
 		return nil, err
 	}
-	rest, err := readExpr(r)
+	rest, err := r.expr()
 	if err != nil {
 		return nil, err
 	}
-	return Let{Name: name, Value: value, Rest: rest}, nil
+	return Let{Name: name, Own: own, Value: value, Rest: rest}, nil
 }
 
-func readNameAnd(r *scan.Reader, mark byte) (byte, error) {
-	name, err := r.Letter()
-	if err != nil {
-		return 0, err
+func (r reader) own() ([]Own, error) {
+	if !r.typed {
+		return nil, nil
 	}
-	return name, r.Want(mark)
+	if err := r.Want('<'); err != nil {
+		return nil, err
+	}
+	var all []Own
+	for !r.Take('>') {
+		place := r.Place()
+		v, err := kind.ReadVariable(r.Reader)
+		if err != nil {
+			return nil, err
+		}
+		all = append(all, Own{Variable: v, Place: place})
+	}
+	return all, nil
 }
 
-func readCalls(r *scan.Reader) (Expr, error) {
-	call, err := readAtom(r)
+func (r reader) calls() (Expr, error) {
+	call, err := r.atom()
 	if err != nil {
 		return nil, err
 	}
 	for beginsAtom(r.Peek()) {
-		second, err := readAtom(r)
+		place := r.Place()
+		second, err := r.atom()
 		if err != nil {
 			return nil, err
 		}
-		call = Call{First: call, Second: second}
+		call = Call{First: call, Second: second, Place: place}
 	}
 	return call, nil
 }
 
-func readAtom(r *scan.Reader) (Expr, error) {
-	sign := r.Peek()
+func (r reader) atom() (Expr, error) {
+	sign, place := r.Peek(), r.Place()
 	if !beginsAtom(sign) {
 		return nil, r.Wrong()
 	}
 	r.Skip()
 	switch {
-	case scan.IsLetter(sign):
-		return Name{Letter: sign}, nil
-	case isConstant(sign):
-		return Constant{Letter: sign}, nil
 	case isLiteral(sign):
 		return Literal{Sign: sign}, nil
+	case sign == '(':
+		return r.closed()
 	}
-	return readClosed(r)
+	given, err := r.given()
+	if err != nil {
+		return nil, err
+	}
+	if isConstant(sign) {
+		return Constant{Letter: sign, Given: given, Place: place}, nil
+	}
+	return Name{Letter: sign, Given: given, Place: place}, nil
 }
 
-func readClosed(r *scan.Reader) (Expr, error) {
-	e, err := readExpr(r)
+func (r reader) closed() (Expr, error) {
+	e, err := r.expr()
 	if err != nil {
 		return nil, err
 	}
@@ -114,6 +171,23 @@ func readClosed(r *scan.Reader) (Expr, error) {
 		return nil, err
 	}
 	return e, nil
+}
+
+func (r reader) given() ([]kind.Type, error) {
+	if !r.typed || !r.Take('{') {
+		return nil, nil
+	}
+	var all []kind.Type
+	for {
+		t, err := kind.ReadFrom(r.Reader)
+		if err != nil {
+			return nil, err
+		}
+		all = append(all, t)
+		if !r.Take(',') {
+			return all, r.Want('}')
+		}
+	}
 }
 
 func beginsAtom(b byte) bool {

@@ -21,14 +21,14 @@ func fits(general, special Type, taken map[Variable]Type) bool {
 			return true
 		}
 		return Same(before, special)
-	case List:
-		s, ok := special.(List)
+	case *List:
+		s, ok := special.(*List)
 		return ok && fits(g.Of, s.Of, taken)
-	case Pair:
-		s, ok := special.(Pair)
+	case *Pair:
+		s, ok := special.(*Pair)
 		return ok && fits(g.First, s.First, taken) && fits(g.Second, s.Second, taken)
-	case Function:
-		s, ok := special.(Function)
+	case *Function:
+		s, ok := special.(*Function)
 		return ok && fits(g.From, s.From, taken) && fits(g.To, s.To, taken)
 	}
 	return false

@@ -1,7 +1,8 @@
-// Package kind: types, read from their text and held against each other.
+// Package kind: types, read from their text, written and held against each other.
 package kind
 
-// Type is one of the kinds below.
+// Type is one of the kinds below. Those with parts are pointers: one part may stand in a type
+// many times, so that the type has far more nodes than parts were made.
 type Type interface {
 	isType()
 }
@@ -21,48 +22,41 @@ type Variable struct {
 // List is [Of].
 type List struct {
 	Of Type
+	node
 }
 
 // Pair is First*Second.
 type Pair struct {
 	First  Type
 	Second Type
+	node
 }
 
 // Function is From>To.
 type Function struct {
 	From Type
 	To   Type
+	node
 }
 
-func (Whole) isType()    {}
-func (Truth) isType()    {}
-func (Variable) isType() {}
-func (List) isType()     {}
-func (Pair) isType()     {}
-func (Function) isType() {}
+func (Whole) isType()     {}
+func (Truth) isType()     {}
+func (Variable) isType()  {}
+func (*List) isType()     {}
+func (*Pair) isType()     {}
+func (*Function) isType() {}
 
-// Same tells whether two types differ in needless brackets at most.
-func Same(one, other Type) bool {
-	switch x := one.(type) {
-	case Whole:
-		_, ok := other.(Whole)
-		return ok
-	case Truth:
-		_, ok := other.(Truth)
-		return ok
-	case Variable:
-		y, ok := other.(Variable)
-		return ok && x == y
-	case List:
-		y, ok := other.(List)
-		return ok && Same(x.Of, y.Of)
-	case Pair:
-		y, ok := other.(Pair)
-		return ok && Same(x.First, y.First) && Same(x.Second, y.Second)
-	case Function:
-		y, ok := other.(Function)
-		return ok && Same(x.From, y.From) && Same(x.To, y.To)
-	}
-	return false
+// NewList makes [of].
+func NewList(of Type) *List {
+	return &List{Of: of, node: above(of)}
+}
+
+// NewPair makes first*second.
+func NewPair(first, second Type) *Pair {
+	return &Pair{First: first, Second: second, node: above(first, second)}
+}
+
+// NewFunction makes from>to.
+func NewFunction(from, to Type) *Function {
+	return &Function{From: from, To: to, node: above(from, to)}
 }

@@ -5,7 +5,7 @@ import "shape/scan"
 // Read refuses a text that is no type with a fault.Text at its place.
 func Read(text string) (Type, error) {
 	r := scan.New(text)
-	t, err := readType(r)
+	t, err := ReadFrom(r)
 	if err != nil {
 		return nil, err
 	}
@@ -15,7 +15,8 @@ func Read(text string) (Type, error) {
 	return t, nil
 }
 
-func readType(r *scan.Reader) (Type, error) {
+// ReadFrom reads as far as the type goes.
+func ReadFrom(r *scan.Reader) (Type, error) {
 	from, err := readProduct(r)
 	if err != nil {
 		return nil, err
@@ -23,11 +24,11 @@ func readType(r *scan.Reader) (Type, error) {
 	if !r.Take('>') {
 		return from, nil
 	}
-	to, err := readType(r)
+	to, err := ReadFrom(r)
 	if err != nil {
 		return nil, err
 	}
-	return Function{From: from, To: to}, nil
+	return NewFunction(from, to), nil
 }
 
 func readProduct(r *scan.Reader) (Type, error) {
@@ -40,7 +41,7 @@ func readProduct(r *scan.Reader) (Type, error) {
 		if err != nil {
 			return nil, err
 		}
-		product = Pair{First: product, Second: second}
+		product = NewPair(product, second)
 	}
 	return product, nil
 }
@@ -56,7 +57,7 @@ func readUnit(r *scan.Reader) (Type, error) {
 		if err != nil {
 			return nil, err
 		}
-		return List{Of: of}, nil
+		return NewList(of), nil
 	case r.Take('('):
 		return readClosed(r, ')')
 	}
@@ -64,7 +65,7 @@ func readUnit(r *scan.Reader) (Type, error) {
 }
 
 func readClosed(r *scan.Reader, bracket byte) (Type, error) {
-	t, err := readType(r)
+	t, err := ReadFrom(r)
 	if err != nil {
 		return nil, err
 	}
@@ -75,9 +76,18 @@ func readClosed(r *scan.Reader, bracket byte) (Type, error) {
 }
 
 func readVariable(r *scan.Reader) (Type, error) {
-	letter, err := r.Letter()
+	v, err := ReadVariable(r)
 	if err != nil {
 		return nil, err
+	}
+	return v, nil
+}
+
+// ReadVariable reads the one variable that must stand here.
+func ReadVariable(r *scan.Reader) (Variable, error) {
+	letter, err := r.Letter()
+	if err != nil {
+		return Variable{}, err
 	}
 	digit := r.Peek()
 	if digit < '1' || '9' < digit {

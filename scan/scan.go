@@ -17,6 +17,11 @@ func New(text string) *Reader {
 	return &Reader{text: text}
 }
 
+// Place answers how many bytes stand ahead.
+func (r *Reader) Place() int {
+	return r.place
+}
+
 // Peek answers 0 at the end: no grammar here has that byte, so both are refused alike.
 func (r *Reader) Peek() byte {
 	if r.place == len(r.text) {

@@ -39,6 +39,25 @@ var typeGrammar = grammar{
 	{"unit", []string{"'(", "type", "')"}},
 }
 
+var typedGrammar = append(grammar{
+	{"typed", []string{"'\\", "'" + letters, "':", "type", "'.", "typed"}},
+	{"typed", []string{"'@", "'" + letters, "'<", "'>", "'=", "typed", "';", "typed"}},
+	{"typed", []string{"'@", "'" + letters, "'<", "variables", "'>", "'=", "typed", "';", "typed"}},
+	{"typed", []string{"calls"}},
+	{"calls", []string{"atom"}},
+	{"calls", []string{"calls", "atom"}},
+	{"atom", []string{"'" + letters + "NCPLRJEAYD"}},
+	{"atom", []string{"'" + letters + "NCPLRJEAYD", "'{", "types", "'}"}},
+	{"atom", []string{"'0123456789TF"}},
+	{"atom", []string{"'(", "typed", "')"}},
+	{"types", []string{"type"}},
+	{"types", []string{"types", "',", "type"}},
+	{"variables", []string{"variable"}},
+	{"variables", []string{"variables", "variable"}},
+	{"variable", []string{"'" + letters}},
+	{"variable", []string{"'" + letters, "'123456789"}},
+}, typeGrammar...)
+
 // A state is a rule that is gone through as far as done, begun at the byte from.
 type state struct {
 	rule, done, from int

@@ -4,6 +4,7 @@ package shape
 import (
 	"errors"
 
+	"shape/check"
 	"shape/expr"
 	"shape/fault"
 	"shape/kind"
@@ -24,10 +25,11 @@ const (
 	ErrBig   Errno = 8 // a type that is too big
 )
 
-// The most bytes of an expression, and of a type.
+// The most bytes of an expression, of a typed one, and of a type.
 const (
-	maxText = 24
-	maxType = 4000
+	maxText  = 24
+	maxTyped = 60000
+	maxType  = 4000
 )
 
 // Print writes an expression in its one form (P3).
@@ -43,7 +45,10 @@ func Infer(text string) (string, Errno, int) { return "", 0, 0 }
 func Show(text string) (string, Errno, int) { return "", 0, 0 }
 
 // Check checks a typed expression (P4).
-func Check(typed string) (string, Errno, int) { return "", 0, 0 }
+func Check(typed string) (string, Errno, int) {
+	form, err := checked(typed)
+	return form, number(err), place(err)
+}
 
 // Instance tells whether a type is an instance of another one (P7).
 func Instance(general string, special string) (bool, Errno, int) {
@@ -60,6 +65,21 @@ func printed(text string) (string, error) {
 		return "", err
 	}
 	return expr.Write(e), nil
+}
+
+func checked(typed string) (string, error) {
+	if len(typed) > maxTyped {
+		return "", fault.Long
+	}
+	e, err := expr.ReadTyped(typed)
+	if err != nil {
+		return "", err
+	}
+	t, err := check.Type(e)
+	if err != nil {
+		return "", err
+	}
+	return kind.Write(t), nil
 }
 
 func isInstance(general, special string) (bool, error) {
@@ -83,6 +103,16 @@ func number(err error) Errno {
 		return ErrLong
 	case errors.Is(err, fault.Text):
 		return ErrText
+	case errors.Is(err, fault.Free):
+		return ErrFree
+	case errors.Is(err, fault.Count):
+		return ErrCount
+	case errors.Is(err, fault.Mixed):
+		return ErrMixed
+	case errors.Is(err, fault.Fixed):
+		return ErrFixed
+	case errors.Is(err, fault.Big):
+		return ErrBig
 	}
 	return OK
 }

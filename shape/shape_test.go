@@ -17,7 +17,7 @@ func TestErrnos(t *testing.T) {
 	}
 }
 
-// holds holds one answer of Print, and one of Instance each way, against P1 and P2.
+// holds holds one answer of Print, one of Check, and one of Instance each way, against P1 and P2.
 func holds(t *testing.T, text string) {
 	t.Helper()
 	form, errno, place := shape.Print(text)
@@ -30,8 +30,23 @@ func holds(t *testing.T, text string) {
 	if again, e, p := shape.Print(text); !right || again != form || e != errno || p != place {
 		t.Errorf("Print(%.80q) = %q %d %d, then %q %d %d", text, form, errno, place, again, e, p)
 	}
+	holdsCheck(t, text)
 	holdsInstance(t, text, "I")
 	holdsInstance(t, "I", text)
+}
+
+// holdsCheck holds Check against the second checker, twice, and answers what is wrong.
+func holdsCheck(t *testing.T, typed string) shape.Errno {
+	t.Helper()
+	plain, what := secondCheck(typed)
+	form := ""
+	if what.errno == shape.OK {
+		form = oneForm(plain)
+	}
+	for range 2 {
+		wantCheck(t, typed, form, what.errno, what.place)
+	}
+	return what.errno
 }
 
 func holdsInstance(t *testing.T, general, special string) {
@@ -104,6 +119,9 @@ func TestCallsBesideOneAnother(t *testing.T) {
 				wantInstance(t, "a>b>a", "I>B>I", true, shape.OK, 0)
 				wantInstance(t, "a>b>a", "B>I>I", false, shape.OK, 0)
 				wantInstance(t, "a>b>", "B>I>I", false, shape.ErrText, 4)
+				wantCheck(t, "@f<a>=\\x:a.x;f{I>I}f{I}", "I>I", shape.OK, 0)
+				wantCheck(t, "@f<a>=\\x:a.x;f{I>I}1", "", shape.ErrMixed, 19)
+				wantCheck(t, "@f<a>=\\x:a.x;@f<a>=N;1", "", shape.ErrCount, 19)
 			}
 		})
 	}
