@@ -3,8 +3,8 @@ package kind
 // node is what a type with parts keeps beside them.
 type node struct {
 	count int
-	last  *visit
-	index int
+	found Type  // by the visit that goes on
+	next  *node // of those that it came by
 }
 
 func above(parts ...Type) node {
@@ -36,29 +36,36 @@ func Nodes(t Type) int {
 	return 1
 }
 
-// A visit goes through a type, and keeps what it found at each part: so it goes through a part
-// once, however often that stands in the type. No two visits may go on at the same time.
+// A visit goes through a type, and keeps at each part what it found there: so it goes through
+// a part once, however often that stands in the type. No two visits may go on at the same time.
 type visit struct {
-	found []Type
+	last *node
 }
 
 // at answers nil where the visit has kept nothing.
 func (v *visit) at(t Type) Type {
-	n := nodeOf(t)
-	if n == nil || n.last != v {
-		return nil
+	if n := nodeOf(t); n != nil {
+		return n.found
 	}
-	return v.found[n.index]
+	return nil
 }
 
 func (v *visit) keep(t, found Type) {
-	if n := nodeOf(t); n != nil {
-		n.last, n.index = v, len(v.found)
-		v.found = append(v.found, found)
+	n := nodeOf(t)
+	if n == nil {
+		return
 	}
+	if n.found == nil {
+		n.next, v.last = v.last, n
+	}
+	n.found = found
 }
 
-// end lets go of what was found: the parts that were visited still know the visit.
+// end leaves all parts as they were.
 func (v *visit) end() {
-	v.found = nil
+	for v.last != nil {
+		n := v.last
+		v.last = n.next
+		n.found, n.next = nil, nil
+	}
 }

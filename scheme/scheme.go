@@ -1,13 +1,19 @@
 // Package scheme: types of which some variables may be taken for anything.
 package scheme
 
-import "shape/kind"
+import (
+	"slices"
+
+	"shape/kind"
+)
 
 // Scheme is a type and its own variables: those that may be taken for anything.
 type Scheme struct {
 	of    kind.Type
 	own   []kind.Variable
 	fixed *kind.Variables
+	given []kind.Type
+	taken kind.Type
 }
 
 // New makes the scheme of a type and some variables, of which none is there twice. They
@@ -22,8 +28,12 @@ func (s *Scheme) Count() int {
 }
 
 // At answers the type with the given ones, one for each variable, in the variables' order.
+// A type that was made last is not made again: big ones would fill the memory.
 func (s *Scheme) At(given []kind.Type) kind.Type {
-	return kind.Put(s.of, s.own, given)
+	if s.taken == nil || !slices.EqualFunc(s.given, given, kind.Same) {
+		s.given, s.taken = given, kind.Put(s.of, s.own, given)
+	}
+	return s.taken
 }
 
 // Fixes tells whether the variable stands in the type, but not as one of the scheme's own.

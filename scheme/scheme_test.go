@@ -40,6 +40,20 @@ func TestAtTakesAllAtOnceInTheirOrder(t *testing.T) {
 	wantAt(t, New(read(t, "I"), a), "I", "B")
 }
 
+func TestAtOtherTypesThanBefore(t *testing.T) {
+	a, b := kind.Variable{Letter: 'a'}, kind.Variable{Letter: 'b'}
+	s := New(read(t, "a>b>c"), a, b)
+	wantAt(t, s, "I>B>c", "I", "B")
+	wantAt(t, s, "I>B>c", "I", "B")
+	wantAt(t, s, "I>I>c", "I", "I")
+	wantAt(t, s, "B>I>c", "B", "I")
+	wantAt(t, s, "[a]>(a>b)>c", "[a]", "a>b")
+	given := []kind.Type{read(t, "[I]"), read(t, "[I]")}
+	if s.At(given) != s.At(given) {
+		t.Error("At the same types it is made again")
+	}
+}
+
 func TestFixes(t *testing.T) {
 	a, b, c, a1 := kind.Variable{Letter: 'a'}, kind.Variable{Letter: 'b'}, kind.Variable{Letter: 'c'}, kind.Variable{Letter: 'a', Digit: 1}
 	s := New(read(t, "a>[b]"), a, c)

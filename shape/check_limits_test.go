@@ -120,10 +120,11 @@ func TestCheckBigTypesOften(t *testing.T) {
 		same += "@k<a>=k{a*a};"
 		value += "@b<a>=b{a*a};"
 	}
-	head := same + value + "@h<>=k{I};@g<>=k{I};"
+	head := same + value + "@h<>=k{I};@g<>=k{B};@g<>=k{I};"
 	full := oneForm(doubled("I", 13))
 	wantCheck(t, head+"b{I}", full, shape.OK, 0)
 	wantCheck(t, filled(head, "@x<>=k{I};", "", "1"), "I", shape.OK, 0)
+	wantCheck(t, filled(head, "@x<>=k{I};@x<>=k{B};", "", "1"), "I", shape.OK, 0)
 	wantCheck(t, filled(head, "@k<a>=k{a};", "", "k{I}"), full+">"+full, shape.OK, 0)
 	wantCheck(t, filled(head, "@k<b>=k{b};@k<a>=k{a};", "", "k{I}"), full+">"+full, shape.OK, 0)
 	wantCheck(t, filled(head, "h(g(", "))", "b{I}"), full, shape.OK, 0)
