@@ -3,8 +3,6 @@
 package check
 
 import (
-	"slices"
-
 	"shape/expr"
 	"shape/fault"
 	"shape/kind"
@@ -17,31 +15,12 @@ const maxNodes = 50000
 
 // Type answers the type of a typed expression, or what is first met that is wrong in it.
 func Type(e expr.Expr) (kind.Type, error) {
-	return typeOf(e, &around{})
-}
-
-// around keeps what the nearest \ or @ around says of each name: nil where none does.
-type around [26]*scheme.Scheme
-
-func (a *around) of(name byte) *scheme.Scheme {
-	return a[name-'a']
-}
-
-func (a *around) with(name byte, s *scheme.Scheme) *around {
-	inner := *a
-	inner[name-'a'] = s
-	return &inner
-}
-
-func (a *around) fixes(v kind.Variable) bool {
-	return slices.ContainsFunc(a[:], func(s *scheme.Scheme) bool {
-		return s != nil && s.Fixes(v)
-	})
+	return typeOf(e, &scheme.Around{})
 }
 
 // typeOf asks only where a type is made whether it is too big: that of a call and that of
 // an @ are parts of types that have been met.
-func typeOf(e expr.Expr, names *around) (kind.Type, error) {
+func typeOf(e expr.Expr, names *scheme.Around) (kind.Type, error) {
 	switch x := e.(type) {
 	case expr.Name:
 		return typeOfName(x, names)
@@ -59,8 +38,8 @@ func typeOf(e expr.Expr, names *around) (kind.Type, error) {
 	return nil, fault.Text
 }
 
-func typeOfName(n expr.Name, names *around) (kind.Type, error) {
-	s := names.of(n.Letter)
+func typeOfName(n expr.Name, names *scheme.Around) (kind.Type, error) {
+	s := names.Of(n.Letter)
 	if s == nil {
 		return nil, &fault.At{Place: n.Place, Err: fault.Free}
 	}
@@ -82,8 +61,8 @@ func taken(s *scheme.Scheme, given []kind.Type, place int) (kind.Type, error) {
 	return notTooBig(s.At(given), place)
 }
 
-func typeOfFunction(f expr.Function, names *around) (kind.Type, error) {
-	to, err := typeOf(f.Body, names.with(f.Name, scheme.New(f.From)))
+func typeOfFunction(f expr.Function, names *scheme.Around) (kind.Type, error) {
+	to, err := typeOf(f.Body, names.With(f.Name, scheme.New(f.From)))
 	if err != nil {
 		return nil, err
 	}
@@ -97,7 +76,7 @@ func notTooBig(t kind.Type, place int) (kind.Type, error) {
 	return t, nil
 }
 
-func typeOfLet(l expr.Let, names *around) (kind.Type, error) {
+func typeOfLet(l expr.Let, names *scheme.Around) (kind.Type, error) {
 	own, err := ownVariables(l.Own, names)
 	if err != nil {
 		return nil, err
@@ -106,14 +85,14 @@ func typeOfLet(l expr.Let, names *around) (kind.Type, error) {
 	if err != nil {
 		return nil, err
 	}
-	return typeOf(l.Rest, names.with(l.Name, scheme.New(value, own...)))
+	return typeOf(l.Rest, names.With(l.Name, scheme.New(value, own...)))
 }
 
-func ownVariables(all []expr.Own, names *around) ([]kind.Variable, error) {
+func ownVariables(all []expr.Own, names *scheme.Around) ([]kind.Variable, error) {
 	var own []kind.Variable
 	var ahead kind.Variables
 	for _, v := range all {
-		if ahead.Has(v.Variable) || names.fixes(v.Variable) {
+		if ahead.Has(v.Variable) || names.Fixes(v.Variable) {
 			return nil, &fault.At{Place: v.Place, Err: fault.Fixed}
 		}
 		ahead.Add(v.Variable)
@@ -122,7 +101,7 @@ func ownVariables(all []expr.Own, names *around) ([]kind.Variable, error) {
 	return own, nil
 }
 
-func typeOfCall(c expr.Call, names *around) (kind.Type, error) {
+func typeOfCall(c expr.Call, names *scheme.Around) (kind.Type, error) {
 	first, err := typeOf(c.First, names)
 	if err != nil {
 		return nil, err

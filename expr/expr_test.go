@@ -119,3 +119,61 @@ func TestReadTypedRefuses(t *testing.T) {
 		wantRefused(t, ReadTyped, text, place)
 	}
 }
+
+func TestWriteTyped(t *testing.T) {
+	for text, want := range map[string]string{
+		"1":                                 "1",
+		"((x{a}))":                          "x{a}",
+		"N{b1}":                             "N{a}",
+		"P{b,[a]}(x{B})":                    "P{a,[b]}x{B}",
+		"\\x:((b)).(\\y:(a>(b)).(x))":       "\\x:a.\\y:b>a.x",
+		"(\\x:I.x)(1)":                      "(\\x:I.x)1",
+		"x((\\x:(I>I).x)(1))":               "x((\\x:I>I.x)1)",
+		"@x<>=(1);(x)":                      "@x<>=1;x",
+		"@f<cab>=(\\x:b.x);f{I,(B),[(c)]}z": "@f<abc>=\\x:c.x;f{I,B,[a]}z",
+		"(@f<z9>=N{z9};f{a})x":              "(@f<a>=N{a};f{b})x",
+		"x(@f<>=1;f)":                       "x(@f<>=1;f)",
+	} {
+		e, err := ReadTyped(text)
+		if err != nil {
+			t.Fatalf("ReadTyped(%q): %v", text, err)
+		}
+		if got := WriteTyped(e); got != want {
+			t.Errorf("WriteTyped of %q = %q, want %q", text, got, want)
+		}
+	}
+}
+
+func TestWriteLeavesTypesOut(t *testing.T) {
+	for text, want := range map[string]string{
+		"P{b,[a]}(x{B})":         "Px",
+		"\\x:a>b.(x)":            "\\x.x",
+		"@f<ab>=\\x:b.x;f{I,B}z": "@f=\\x.x;fz",
+		"@f<>=1;1":               "@f=1;1",
+	} {
+		e, err := ReadTyped(text)
+		if err != nil {
+			t.Fatalf("ReadTyped(%q): %v", text, err)
+		}
+		if got := Write(e); got != want {
+			t.Errorf("Write of %q = %q, want %q", text, got, want)
+		}
+	}
+}
+
+func TestNoneFree(t *testing.T) {
+	for text, want := range map[string]int{
+		"1": -1, "N": -1, "\\x.x": -1, "@x=1;x": -1, "\\x.@y=x;xy": -1, "\\a.\\z.az": -1,
+		"x": 0, "1x": 1, "xy": 0, "\\x.y": 3, "@x=x;x": 3, "@x=x;y": 3, "@x=1;y": 5, "(\\x.x)x": 6, "(@x=1;x)x": 8, "\\z.a": 3, "\\a.z": 3,
+	} {
+		e, err := Read(text)
+		if err != nil {
+			t.Fatalf("Read(%q): %v", text, err)
+		}
+		err = NoneFree(e)
+		var at *fault.At
+		if want < 0 && err != nil || want >= 0 && (!errors.Is(err, fault.Free) || !errors.As(err, &at) || at.Place != want) {
+			t.Errorf("NoneFree(%q) = %v, want the place %d", text, err, want)
+		}
+	}
+}

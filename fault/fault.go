@@ -14,6 +14,7 @@ var (
 	Count = errors.New("there are more or fewer types than variables")
 	Mixed = errors.New("the one can't be called with the other")
 	Fixed = errors.New("the variable may not be taken for anything")
+	Type  = errors.New("there is no type")
 	Big   = errors.New("the type is too big")
 )
 

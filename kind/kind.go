@@ -1,8 +1,9 @@
-// Package kind: types, read from their text, written and held against each other.
+// Package kind: types, read from their text, written, held against each other, and found.
 package kind
 
-// Type is one of the kinds below. Those with parts are pointers: one part may stand in a type
-// many times, so that the type has far more nodes than parts were made.
+// Type is one of the kinds below, or an Unknown where it is still to be found. Those with parts
+// are pointers: one part may stand in a type many times, so that the type has far more nodes
+// than parts were made.
 type Type interface {
 	isType()
 }

@@ -3,6 +3,7 @@ package kind
 import (
 	"errors"
 	"reflect"
+	"strings"
 	"testing"
 
 	"shape/fault"
@@ -119,6 +120,22 @@ func TestWrite(t *testing.T) {
 	} {
 		if got := Write(read(t, text)); got != want {
 			t.Errorf("Write(%s) = %s, want %s", text, got, want)
+		}
+	}
+}
+
+// A part that stands in a type again is written as it was written ahead, with the brackets
+// that it needs there.
+func TestWriteAgain(t *testing.T) {
+	var part Type = NewFunction(Variable{Letter: 'y'}, Variable{Letter: 'x'})
+	want := "a>b"
+	for range 12 {
+		part = NewFunction(part, NewPair(part, NewList(part)))
+		want = "(" + want + ")>(" + want + ")*[" + want + "]"
+	}
+	for range 2 {
+		if got := Write(NewPair(Variable{Letter: 'x'}, part)); got != "a*("+strings.NewReplacer("a", "b", "b", "a").Replace(want)+")" {
+			t.Errorf("Write of a type that grows = %.100s, %d bytes", got, len(got))
 		}
 	}
 }

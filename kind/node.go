@@ -28,7 +28,7 @@ func nodeOf(t Type) *node {
 	return nil
 }
 
-// Nodes counts a part as often as it stands in the type.
+// Nodes counts a part as often as it stands in the type, and an unknown as one.
 func Nodes(t Type) int {
 	if n := nodeOf(t); n != nil {
 		return n.count
@@ -68,4 +68,23 @@ func (v *visit) end() {
 		v.last = n.next
 		n.found, n.next = nil, nil
 	}
+}
+
+// remakeOnce answers what the visit made of the type when it came by ahead.
+func (v *visit) remakeOnce(t Type, change func(part Type) Type) Type {
+	if made := v.at(t); made != nil {
+		return made
+	}
+	made := remade(t, change)
+	v.keep(t, made)
+	return made
+}
+
+// eachPartOnce does nothing if the visit came by ahead.
+func (v *visit) eachPartOnce(t Type, do func(part Type)) {
+	if v.at(t) != nil {
+		return
+	}
+	eachPart(t, do)
+	v.keep(t, t)
 }

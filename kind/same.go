@@ -12,24 +12,9 @@ func (v *visit) same(one, other Type) bool {
 	if one == other || v.at(one) == other {
 		return true
 	}
-	if !v.sameParts(one, other) {
+	if !alike(one, other, v.same) {
 		return false
 	}
 	v.keep(one, other)
 	return true
-}
-
-func (v *visit) sameParts(one, other Type) bool {
-	switch x := one.(type) {
-	case *List:
-		y, ok := other.(*List)
-		return ok && v.same(x.Of, y.Of)
-	case *Pair:
-		y, ok := other.(*Pair)
-		return ok && v.same(x.First, y.First) && v.same(x.Second, y.Second)
-	case *Function:
-		y, ok := other.(*Function)
-		return ok && v.same(x.From, y.From) && v.same(x.To, y.To)
-	}
-	return false
 }

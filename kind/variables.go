@@ -1,7 +1,15 @@
 package kind
 
+const letters = 26
+
+// NumberedVariable answers the variables in the order of their names: a to z, then a1 to z1,
+// a2 to z2 and so on. There are 260 of them, from 0 on.
+func NumberedVariable(n int) Variable {
+	return Variable{Letter: 'a' + byte(n%letters), Digit: byte(n / letters)}
+}
+
 // Variables is a set of them: for each letter one bit a digit.
-type Variables [26]uint16
+type Variables [letters]uint16
 
 // VariablesOf answers those that stand in a type.
 func VariablesOf(t Type) Variables {
@@ -13,22 +21,10 @@ func VariablesOf(t Type) Variables {
 }
 
 func (v *visit) addTo(all *Variables, t Type) {
-	if v.at(t) != nil {
-		return
-	}
-	switch x := t.(type) {
-	case Variable:
+	if x, ok := t.(Variable); ok {
 		all.Add(x)
-	case *List:
-		v.addTo(all, x.Of)
-	case *Pair:
-		v.addTo(all, x.First)
-		v.addTo(all, x.Second)
-	case *Function:
-		v.addTo(all, x.From)
-		v.addTo(all, x.To)
 	}
-	v.keep(t, t)
+	v.eachPartOnce(t, func(part Type) { v.addTo(all, part) })
 }
 
 // Add puts a variable in.

@@ -64,6 +64,20 @@ func TestFixes(t *testing.T) {
 	}
 }
 
+func TestAround(t *testing.T) {
+	a, b := kind.Variable{Letter: 'a'}, kind.Variable{Letter: 'b'}
+	none := &Around{}
+	first, second, other := New(read(t, "a>b"), a), New(read(t, "I")), New(read(t, "a"))
+	one := none.With('x', first)
+	two := one.With('x', second).With('z', other)
+	if none.Of('x') != nil || one.Of('x') != first || one.Of('z') != nil || two.Of('x') != second || two.Of('z') != other {
+		t.Error("a name has another scheme than the nearest one")
+	}
+	if none.Fixes(b) || one.Fixes(a) || !one.Fixes(b) || !two.Fixes(a) || two.Fixes(b) {
+		t.Error("other variables are fixed than those of the nearest schemes")
+	}
+}
+
 func TestConstants(t *testing.T) {
 	for _, c := range []struct {
 		letter byte

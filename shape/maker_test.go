@@ -269,7 +269,13 @@ func TestCheckOfChangedOnes(t *testing.T) {
 		}
 		met[holdsCheck(t, text)]++
 	}
-	for _, e := range []shape.Errno{shape.OK, shape.ErrText, shape.ErrFree, shape.ErrCount, shape.ErrMixed, shape.ErrFixed} {
+	wantMet(t, met, shape.OK, shape.ErrText, shape.ErrFree, shape.ErrCount, shape.ErrMixed, shape.ErrFixed)
+}
+
+// wantMet asks of texts that are made whether they are of all kinds that they should be of.
+func wantMet(t *testing.T, met map[shape.Errno]int, all ...shape.Errno) {
+	t.Helper()
+	for _, e := range all {
 		if met[e] < 100 {
 			t.Errorf("the answer %d was met %d times alone", e, met[e])
 		}

@@ -128,20 +128,26 @@ func TestPrintPlaces(t *testing.T) {
 	})
 }
 
-// exprsOf answers all expressions of that many parts, with brackets around all that are no
-// atoms: so that no two of them are the same, however brackets are taken.
-func exprsOf(parts int) []string {
+// exprsOf answers all expressions of that many parts, of these names and other atoms, with
+// brackets around all that are no atoms: so that no two of them are the same, however brackets
+// are taken.
+func exprsOf(parts int, names, others string) []string {
 	if parts == 1 {
-		return []string{"x", "1"}
+		return strings.Split(names+others, "")
 	}
 	var out []string
-	for _, body := range exprsOf(parts - 1) {
-		out = append(out, "(\\x."+body+")")
+	for _, name := range strings.Split(names, "") {
+		for _, body := range exprsOf(parts-1, names, others) {
+			out = append(out, "(\\"+name+"."+body+")")
+		}
 	}
 	for first := 1; first < parts-1; first++ {
-		for _, one := range exprsOf(first) {
-			for _, other := range exprsOf(parts - 1 - first) {
-				out = append(out, "("+one+other+")", "(@x="+one+";"+other+")")
+		for _, one := range exprsOf(first, names, others) {
+			for _, other := range exprsOf(parts-1-first, names, others) {
+				out = append(out, "("+one+other+")")
+				for _, name := range strings.Split(names, "") {
+					out = append(out, "(@"+name+"="+one+";"+other+")")
+				}
 			}
 		}
 	}
@@ -173,7 +179,7 @@ func withoutPair(text string, place int) string {
 func TestPrintBrackets(t *testing.T) {
 	from := map[string]string{}
 	for parts := 1; parts <= 7; parts++ {
-		for _, text := range exprsOf(parts) {
+		for _, text := range exprsOf(parts, "x", "1") {
 			if len(text) > 24 {
 				continue
 			}

@@ -133,11 +133,13 @@ func isFixed(around []said, v string) bool {
 }
 
 // A second checks a typed expression in another way than the program: it goes through the
-// text once and makes nothing but plain types. It stops at what is wrong by a panic.
+// text once and makes nothing but plain types. It stops at what is wrong by a panic. To an
+// endless one no type is too big.
 type second struct {
-	text   string
-	at     int
-	around []said
+	text    string
+	at      int
+	around  []said
+	endless bool
 }
 
 type wrong struct {
@@ -146,18 +148,21 @@ type wrong struct {
 }
 
 func secondCheck(text string) (plain string, what wrong) {
+	if len(text) > 60000 {
+		return "", wrong{shape.ErrLong, 0}
+	}
+	if place, is := typedGrammar.place(text); is {
+		return "", wrong{shape.ErrText, place}
+	}
+	return (&second{text: text}).whole()
+}
+
+func (s *second) whole() (plain string, what wrong) {
 	defer func() {
 		if w, ok := recover().(wrong); ok {
 			plain, what = "", w
 		}
 	}()
-	if len(text) > 60000 {
-		panic(wrong{shape.ErrLong, 0})
-	}
-	if place, is := typedGrammar.place(text); is {
-		panic(wrong{shape.ErrText, place})
-	}
-	s := second{text: text}
 	return s.typed(), wrong{}
 }
 
@@ -197,7 +202,7 @@ func (s *second) within(what said) string {
 }
 
 func (s *second) small(plain string, place int) string {
-	if nodesOf(plain) > 50000 {
+	if !s.endless && nodesOf(plain) > 50000 {
 		panic(wrong{shape.ErrBig, place})
 	}
 	return plain

@@ -7,6 +7,7 @@ import (
 	"shape/check"
 	"shape/expr"
 	"shape/fault"
+	"shape/infer"
 	"shape/kind"
 )
 
@@ -39,10 +40,16 @@ func Print(text string) (string, Errno, int) {
 }
 
 // Infer finds the most general type (P5).
-func Infer(text string) (string, Errno, int) { return "", 0, 0 }
+func Infer(text string) (string, Errno, int) {
+	form, err := inferred(text)
+	return form, number(err), place(err)
+}
 
 // Show writes an expression with its types (P6).
-func Show(text string) (string, Errno, int) { return "", 0, 0 }
+func Show(text string) (string, Errno, int) {
+	typed, err := shown(text)
+	return typed, number(err), place(err)
+}
 
 // Check checks a typed expression (P4).
 func Check(typed string) (string, Errno, int) {
@@ -57,14 +64,42 @@ func Instance(general string, special string) (bool, Errno, int) {
 }
 
 func printed(text string) (string, error) {
-	if len(text) > maxText {
-		return "", fault.Long
-	}
-	e, err := expr.Read(text)
+	e, err := read(text)
 	if err != nil {
 		return "", err
 	}
 	return expr.Write(e), nil
+}
+
+func inferred(text string) (string, error) {
+	_, t, err := found(text)
+	if err != nil {
+		return "", err
+	}
+	return kind.Write(t), nil
+}
+
+func shown(text string) (string, error) {
+	typed, _, err := found(text)
+	if err != nil {
+		return "", err
+	}
+	return expr.WriteTyped(typed), nil
+}
+
+func read(text string) (expr.Expr, error) {
+	if len(text) > maxText {
+		return nil, fault.Long
+	}
+	return expr.Read(text)
+}
+
+func found(text string) (expr.Expr, kind.Type, error) {
+	e, err := read(text)
+	if err != nil {
+		return nil, nil, err
+	}
+	return infer.Typed(e)
 }
 
 func checked(typed string) (string, error) {
@@ -111,6 +146,8 @@ func number(err error) Errno {
 		return ErrMixed
 	case errors.Is(err, fault.Fixed):
 		return ErrFixed
+	case errors.Is(err, fault.Type):
+		return ErrType
 	case errors.Is(err, fault.Big):
 		return ErrBig
 	}

@@ -17,7 +17,7 @@ func TestErrnos(t *testing.T) {
 	}
 }
 
-// holds holds one answer of Print, one of Check, and one of Instance each way, against P1 and P2.
+// holds holds the answers of all calls, of Instance each way, against P1 and P2.
 func holds(t *testing.T, text string) {
 	t.Helper()
 	form, errno, place := shape.Print(text)
@@ -30,6 +30,7 @@ func holds(t *testing.T, text string) {
 	if again, e, p := shape.Print(text); !right || again != form || e != errno || p != place {
 		t.Errorf("Print(%.80q) = %q %d %d, then %q %d %d", text, form, errno, place, again, e, p)
 	}
+	holdsInfer(t, text)
 	holdsCheck(t, text)
 	holdsInstance(t, text, "I")
 	holdsInstance(t, "I", text)
@@ -102,6 +103,7 @@ func TestLongTexts(t *testing.T) {
 		for _, length := range []int{4001, 100000} {
 			text := strings.Repeat(unit, length)[:length]
 			wantPrint(t, text, "", shape.ErrLong, 0)
+			wantFound(t, text, "", shape.ErrLong, 0)
 			wantInstance(t, text, "I", false, shape.ErrLong, 0)
 			wantInstance(t, "?", text, false, shape.ErrLong, 0)
 		}
@@ -116,6 +118,9 @@ func TestCallsBesideOneAnother(t *testing.T) {
 			for range 500 {
 				wantPrint(t, "(\\x.(x))(1)", "(\\x.x)1", shape.OK, 0)
 				wantPrint(t, "(\\x.(x)", "", shape.ErrText, 7)
+				wantFound(t, "@f=\\x.Pxx;f(fN)", "[a]*[a]*([a]*[a])", shape.OK, 0)
+				wantFound(t, "\\x.@f=x;ff", "", shape.ErrType, 0)
+				wantFound(t, "\\x.@f=y;ff", "", shape.ErrFree, 6)
 				wantInstance(t, "a>b>a", "I>B>I", true, shape.OK, 0)
 				wantInstance(t, "a>b>a", "B>I>I", false, shape.OK, 0)
 				wantInstance(t, "a>b>", "B>I>I", false, shape.ErrText, 4)
